@@ -5,7 +5,13 @@ from landdays.acts import answer_join
 from landdays.acts import answer_split
 from landdays.acts import answer_undo
 from landdays.points import points_of
+from landdays.questions import answer_acts
+from landdays.questions import answer_at
+from landdays.questions import answer_beside
+from landdays.questions import answer_holds
 from landdays.questions import answer_parcel
+from landdays.questions import answer_there
+from landdays.questions import answer_whose
 from landdays.refusals import MOST_DAY
 from landdays.refusals import MOST_OWNER
 from landdays.refusals import NO_REGISTRY
@@ -22,6 +28,11 @@ JOINING = 3
 GIVING = 4
 UNDOING = 5
 ASKING_PARCEL = 6
+ASKING_AT = 7
+ASKING_THERE = 8
+ASKING_WHOSE = 9
+ASKING_HOLDS = 10
+ASKING_BESIDE = 11
 
 # How many whole numbers each call has before its row, if it has one.
 ARGUMENTS = {1: 2, 2: 2, 3: 3, 4: 6, 5: 0, 6: 1, 7: 3, 8: 1, 9: 2, 10: 2, 11: 2, 12: 0}
@@ -67,25 +78,43 @@ def answer_open(desk, owner, day, numbers):
     return (0, [twice_area(ring)])
 
 
+def answer_act(registry, number, numbers, row):
+    """The answer to a call that may change the registry."""
+    if number == SPLITTING:
+        return answer_split(registry, numbers[0], numbers[1], row)
+    if number == JOINING:
+        return answer_join(registry, numbers[0], numbers[1], numbers[2])
+    if number == GIVING:
+        return answer_give(registry, numbers[0], numbers[1], numbers[2], numbers[3], numbers[4], numbers[5])
+    return answer_undo(registry)
+
+
+def answer_question(registry, number, numbers):
+    """The answer to a call that only asks the registry; the last one, acts, has no numbers."""
+    if number == ASKING_PARCEL:
+        return answer_parcel(registry, numbers[0])
+    if number == ASKING_AT:
+        return answer_at(registry, numbers[0], numbers[1], numbers[2])
+    if number == ASKING_THERE:
+        return answer_there(registry, numbers[0])
+    if number == ASKING_WHOSE:
+        return answer_whose(registry, numbers[0], numbers[1])
+    if number == ASKING_HOLDS:
+        return answer_holds(registry, numbers[0], numbers[1])
+    if number == ASKING_BESIDE:
+        return answer_beside(registry, numbers[0], numbers[1])
+    return answer_acts(registry)
+
+
 def answer_call(desk, call):
     """The answer to a call: a tuple of a number and a list."""
-    numbers = call.numbers
     if call.number == OPENING:
-        return answer_open(desk, numbers[0], numbers[1], call.row)
+        return answer_open(desk, call.numbers[0], call.numbers[1], call.row)
     if desk.registry is None:
         return refused(NO_REGISTRY)
-    if call.number == SPLITTING:
-        return answer_split(desk.registry, numbers[0], numbers[1], call.row)
-    if call.number == JOINING:
-        return answer_join(desk.registry, numbers[0], numbers[1], numbers[2])
-    if call.number == GIVING:
-        return answer_give(desk.registry, numbers[0], numbers[1], numbers[2], numbers[3], numbers[4], numbers[5])
-    if call.number == UNDOING:
-        return answer_undo(desk.registry)
-    if call.number == ASKING_PARCEL:
-        return answer_parcel(desk.registry, numbers[0])
-    # The other calls are only read so far; what isn't told yet is 0 and empty.
-    return (0, [])
+    if call.number <= UNDOING:
+        return answer_act(desk.registry, call.number, call.numbers, call.row)
+    return answer_question(desk.registry, call.number, call.numbers)
 
 
 def told(number, found):

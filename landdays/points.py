@@ -46,6 +46,16 @@ def have_common_point(a, b, c, d):
     return on_stretch(c, a, b) or on_stretch(d, a, b) or cross_over(a, b, c, d)
 
 
+def run_opposite(a, b, c, d):
+    """Whether two stretches have more than a point in common and go opposite ways along it."""
+    if cross(a, b, c) != 0 or cross(a, b, d) != 0:
+        return False
+    # Along a line points rise or fall, by x and then by y.
+    if (a < b) == (c < d):
+        return False
+    return max(min(a, b), min(c, d)) < min(max(a, b), max(c, d))
+
+
 def apart_ones_meet(stretches, closed):
     """Whether two stretches that don't follow one another have a point in common.
 

@@ -56,6 +56,21 @@ def last_shares(parcel):
     return parcel.changes[-1][1]
 
 
+def is_there_on(parcel, day):
+    """Whether a parcel is there on a day: from its first one to the one before it's gone."""
+    return parcel.since <= day and (parcel.gone is None or day < parcel.gone)
+
+
+def parcels_on(registry, day):
+    """The numbers of the parcels that are there on a day, rising."""
+    return [p for p, parcel in enumerate(registry.parcels) if is_there_on(parcel, day)]
+
+
+def shares_on(parcel, day):
+    """Whose a parcel is on a day on which it's there: the shares as they were changed last by then."""
+    return [shares for since, shares in parcel.changes if since <= day][-1]
+
+
 def replace_parcels(registry, ended, rings, day):
     """An act: these parcels are gone since that day, and parcels with these rings come out of them.
 

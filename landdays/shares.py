@@ -35,6 +35,11 @@ def is_less(f, g):
     return f[0] * g[1] < g[0] * f[1]
 
 
+def area_of(share, twice):
+    """The area that a share of some land comes to, whose whole area twice is told."""
+    return fraction(share[0] * twice, share[1] * 2)
+
+
 def share_of(shares, owner):
     """What an owner has, 0 if that's nothing."""
     return shares.get(owner, (0, 1))

@@ -21,6 +21,12 @@ class Layout:
         a, b, c, d, x, y = self.parts
         return (a * p[0] + b * p[1] + x, c * p[0] + d * p[1] + y)
 
+    def place(self, x, y):
+        """The place on the grid, between its points too, that's laid out there."""
+        a, b, c, d, left, low = self.parts
+        x, y = x - left, y - low
+        return (Fraction(d * x - b * y, self.scale), Fraction(a * y - c * x, self.scale))
+
     def ring(self, cells):
         points = [self.point(p) for p in corners(cells)]
         first = points.index(min(points))
@@ -34,6 +40,14 @@ def around(p):
     """The four cells that have a grid's point as a corner."""
     x, y = p
     return [(x, y), (x - 1, y), (x - 1, y - 1), (x, y - 1)]
+
+
+def at_place(place):
+    """The cells that a place on the grid is in or on the border of."""
+    x, y = place
+    xs = [x // 1 - 1, x // 1] if x % 1 == 0 else [x // 1]
+    ys = [y // 1 - 1, y // 1] if y % 1 == 0 else [y // 1]
+    return [(int(x), int(y)) for x in xs for y in ys]
 
 
 def sides(p, q):
@@ -77,8 +91,8 @@ def is_one_ring(cells):
     return True
 
 
-def corners(cells):
-    """The grid's points at which the border of cells turns, one behind another with the cells to the left."""
+def border_steps(cells):
+    """The steps along the border of cells, from grid's point to grid's point, with the cells to the left."""
     steps = {}
     for cell in cells:
         x, y = cell
@@ -86,6 +100,12 @@ def corners(cells):
         for p, q in zip(square, square[1:] + square[:1]):
             if sides(p, q)[1] not in cells:
                 steps[p] = q
+    return steps
+
+
+def corners(cells):
+    """The grid's points at which the border of cells turns, one behind another with the cells to the left."""
+    steps = border_steps(cells)
     first = min(steps)
     walk, p = [first], steps[first]
     while p != first:
@@ -220,3 +240,48 @@ class Model:
         one = self.now["parcels"][p]
         told = [one["gone"], one["since"], self.area(one["cells"]), len(one["came"])]
         return (0, told + one["came"] + self.layout.ring(one["cells"]))
+
+    def on(self, day):
+        """The parcels as they were when all acts up to that day were done, by their numbers; gone ones left out."""
+        states = [state for state in self.before + [self.now] if state["days"][-1] <= day]
+        if not states:
+            return {}
+        return {p: one for p, one in enumerate(states[-1]["parcels"]) if one["gone"] < 0}
+
+    def at(self, x, y, day):
+        near = at_place(self.layout.place(x, y))
+        inside, touched = 0, []
+        for p, one in self.on(day).items():
+            covered = [cell in one["cells"] for cell in near]
+            inside += all(covered)
+            touched += [p] if any(covered) else []
+        return (inside, touched)
+
+    def there(self, day):
+        return (len(self.on(day)), list(self.on(day)))
+
+    def whose(self, p, day):
+        if p >= len(self.now["parcels"]):
+            return (-4, [])
+        if p not in self.on(day):
+            return (-5, [])
+        shares = self.on(day)[p]["shares"]
+        told = [(owner, share.numerator, share.denominator) for owner, share in sorted(shares.items())]
+        return (len(told), [number for row in told for number in row])
+
+    def holds(self, owner, day):
+        held = [(one["shares"][owner], one["cells"]) for one in self.on(day).values() if owner in one["shares"]]
+        area = sum([share * len(cells) * self.layout.scale for share, cells in held], Fraction(0))
+        return (len(held), [area.numerator, area.denominator])
+
+    def beside(self, p, q):
+        if max(p, q) >= len(self.now["parcels"]):
+            return (-4, [])
+        one, other = [self.now["parcels"][each]["cells"] for each in (p, q)]
+        steps, others = border_steps(one), border_steps(other)
+        if any(others.get(b) == a for a, b in steps.items()):
+            return (2, [])
+        return (1 if set(corners(one)) & set(others) or set(corners(other)) & set(steps) else 0, [])
+
+    def acts(self):
+        return (len(self.before), [self.now["days"][-1], len(self.now["parcels"])])

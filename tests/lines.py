@@ -35,6 +35,24 @@ class Line:
     def parcel(self, p):
         return self.add(6, p)
 
+    def at(self, x, y, day):
+        return self.add(7, x, y, day)
+
+    def there(self, day):
+        return self.add(8, day)
+
+    def whose(self, p, day):
+        return self.add(9, p, day)
+
+    def holds(self, owner, day):
+        return self.add(10, owner, day)
+
+    def beside(self, p, q):
+        return self.add(11, p, q)
+
+    def acts(self):
+        return self.add(12)
+
     def parcels(self, size):
         for p in range(size):
             self.parcel(p)

@@ -38,6 +38,26 @@ class TestForm(unittest.TestCase):
             1, 0,
             1, -5])
 
+    def test_the_forms_of_questions(self):
+        calls = [1, 7, 10, 8] + RECTANGLE + [2, 0, 11, 4, 20, 0, 20, 30, 4, 1, 12, 7, 8, 1, 3]
+        questions = [7, 20, 10, 11, 7, 10, 10, 11, 7, 41, 0, 11, 8, 12, 8, 9, 9, 1, 12, 9, 3, 12, 9, 0, 12,
+                     10, 8, 12, 10, 9, 12, 11, 1, 2, 11, 1, 1, 11, 1, 3, 12]
+        self.assertEqual(answers(calls + questions)[len(answers(calls)):], [
+            5, 0, 2, 1, 2, 0,
+            4, 1, 1, 1, 0,
+            1, 0,
+            5, 2, 2, 1, 2, 0,
+            1, 0,
+            9, 2, 6, 7, 2, 3, 8, 1, 3, 0,
+            1, -4,
+            1, -5,
+            5, 1, 2, 200, 1, 0,
+            5, 0, 2, 0, 1, 0,
+            1, 2,
+            1, 1,
+            1, -4,
+            5, 2, 2, 12, 3, 0])
+
     def test_empty_rows_are_read(self):
         self.assertEqual(answers([1, 7, 10, 0, 5]), [1, -3, 1, -8])
         line = Line().open().split(0, 10, []).undo()
@@ -52,7 +72,9 @@ class TestForm(unittest.TestCase):
         line = Line().open(most, most, [most] * 8).open().open(0, 0, [most] * 8)
         line.split(most, 10, [most] * 4).split(0, 10, [most] * 4).split(0, most, [most] * 4)
         line.join(most, 0, 10).give(0, 10, most, most, most, most).parcel(most).undo()
-        self.assertEqual([answer[0] for answer in line.ask()], [-1, 0, -3, -4, -3, -1, -4, -1, -4, -5])
+        line.at(most, most, most).there(most).whose(most, most).whose(0, most).holds(most, most).beside(most, most)
+        self.assertEqual([answer[0] for answer in line.ask()],
+                         [-1, 0, -3, -4, -3, -1, -4, -1, -4, -5, 0, 1, -4, 1, 0, -4])
 
     def test_the_other_calls_are_read_to_their_end(self):
         for call in ONE_OF_EACH:
@@ -89,6 +111,7 @@ class TestNothingKept(unittest.TestCase):
     def test_what_is_handed_in_is_not_changed(self):
         line = Line().open().split(0, 11, [20, 0, 20, 30]).give(1, 12, 7, 8, 1, 3).undo()
         line.join(1, 2, 12).undo().undo().parcels(3).split(0, 1, [1]).open(ring=[1, 2, 3])
+        line.at(20, 10, 11).there(11).whose(0, 10).holds(7, 10).beside(0, 0).acts()
         before = list(line.calls)
         found = answers(UnchangingList(line.calls))
         self.assertEqual(line.calls, before)
@@ -100,8 +123,14 @@ class TestNothingKept(unittest.TestCase):
         self.assertEqual(answers([6, 0]), [1, -8])
         self.assertEqual(answers(calls), first)
 
+    def test_asking_twice_answers_the_same(self):
+        line = Line().open().split(0, 11, [20, 0, 20, 30]).give(1, 12, 7, 8, 1, 3)
+        for k in range(2):
+            line.parcel(1).at(20, 10, 11).there(11).whose(1, 12).holds(7, 12).beside(1, 2).acts()
+        self.assertEqual(line.last(14)[:7], line.last(7))
+
     def test_what_is_given_back_may_be_changed(self):
-        calls = Line().open().split(0, 11, [20, 0, 20, 30]).parcel(1).calls
+        calls = Line().open().split(0, 11, [20, 0, 20, 30]).parcel(1).there(11).whose(1, 11).calls
         first = answers(calls)
         kept = list(first)
         first.clear()

@@ -1,9 +1,12 @@
 """Many acts by chance, compared with a model on cells, and the promises looked at after them."""
 
+import itertools
 import random
 import unittest
+from fractions import Fraction
 
-from tests.cells import Layout, Model, around, beside, is_one_ring, is_way
+from tests.battery import answers_on
+from tests.cells import Layout, Model, around, beside, corners, is_one_ring, is_way
 from tests.lines import Line, told_parcel
 
 LAYOUTS = [(1, 0, 0, 1, 0, 0), (5, 0, 0, 3, 7, 11), (0, -4, 4, 0, 100, 3), (3, 1, 1, 2, 0, 0), (2, -3, 3, 2, 60, 1),
@@ -59,6 +62,7 @@ class Play:
         self.model = Model(self.layout)
         self.line = Line()
         self.expected = []
+        self.asked = []
         self.day = self.chance.randint(0, 5)
         self.cells = some_cells(self.chance, self.chance.choice([4, 12, 30, 50]))
 
@@ -113,8 +117,40 @@ class Play:
         self.line.parcels(size)
         self.expected.extend([self.model.parcel(p) for p in range(size)])
 
-    def some_acts(self, size):
-        kinds = [self.split] * 6 + [self.join] * 6 + [self.give] * 2 + [self.undo]
+    def ask(self, name, *numbers):
+        getattr(self.line, name)(*numbers)
+        self.expected.append(getattr(self.model, name)(*numbers))
+        self.asked.append((name, self.expected[-1][0], len(self.expected[-1][1])))
+
+    def asked_day(self):
+        if self.chance.random() < 0.05:
+            return self.chance.choice([0, 1000000, 1000001, 4294967295])
+        return max(0, self.chance.randint(self.model.now["days"][0] - 2, self.day + 2))
+
+    def asked_point(self):
+        """Mostly a corner of a parcel's or another point of the grid's or one near it, rarely one far away."""
+        if self.chance.random() < 0.02:
+            return self.chance.choice([(0, 0), (4294967295, 5), (5, 4294967295)])
+        if self.chance.random() < 0.5:
+            return self.layout.point(self.chance.choice(corners(self.chance.choice(self.model.now["parcels"])["cells"])))
+        x, y = self.layout.point((self.chance.randint(-1, 10), self.chance.randint(-1, 10)))
+        if self.chance.random() < 0.5:
+            x, y = x + self.chance.randint(-3, 3), y + self.chance.randint(-3, 3)
+        return (x, y) if min(x, y) >= 0 else self.asked_point()
+
+    def any_parcel(self):
+        return self.chance.randint(0, len(self.model.now["parcels"]))
+
+    def some_questions(self, size):
+        for k in range(size):
+            day = self.asked_day()
+            self.ask("at", *self.asked_point(), day)
+            self.ask(*self.chance.choice([("there", day), ("acts",), ("holds", self.chance.randint(0, 4), day)]))
+            self.ask("whose", self.any_parcel(), day)
+            self.ask("beside", self.any_parcel(), self.any_parcel())
+
+    def some_acts(self, size, gifts=2, undos=1):
+        kinds = [self.split] * 6 + [self.join] * 6 + [self.give] * gifts + [self.undo] * undos
         for k in range(size):
             self.chance.choice(kinds)()
 
@@ -137,6 +173,25 @@ class TestAgainstModel(unittest.TestCase):
             self.assertGreater(len([answer for answer in told if answer[0] == number]), 50)
 
 
+    def test_questions_by_chance(self):
+        asked = []
+        for seed in range(500, 620):
+            play = Play(seed)
+            play.open()
+            for k in range(3):
+                play.some_acts(18, gifts=8)
+                play.some_questions(16)
+            asked.extend(play.asked)
+            with self.subTest(seed=seed):
+                self.assertEqual(play.line.ask(), play.expected)
+        # That the chance tries enough of each: a call, the answer's number, how many its list has.
+        for each in (("at", 0, 0), ("at", 1, 1), ("at", 0, 1), ("at", 0, 2), ("at", 0, 3), ("there", 0, 0),
+                     ("there", 3, 3), ("whose", -4, 0), ("whose", -5, 0), ("whose", 1, 3), ("whose", 2, 6),
+                     ("whose", 3, 9), ("holds", 0, 2), ("holds", 1, 2), ("holds", 2, 2), ("beside", -4, 0),
+                     ("beside", 0, 0), ("beside", 1, 0), ("beside", 2, 0), ("acts", 3, 2)):
+            self.assertGreater(asked.count(each), 10, each)
+
+
 class TestPromises(unittest.TestCase):
     def test_the_areas_are_the_districts(self):
         for seed in range(200, 230):
@@ -152,6 +207,40 @@ class TestPromises(unittest.TestCase):
                 for day in range(play.model.now["days"][0], play.day + 2):
                     areas = [one["area"] for one in told if one["since"] <= day and not 0 <= one["gone"] <= day]
                     self.assertEqual(sum(areas), whole)
+
+    def test_all_that_is_held_is_the_land(self):
+        for seed in range(230, 250):
+            play = Play(seed)
+            play.open()
+            whole = Fraction(play.expected[0][1][0], 2)
+            play.some_acts(50, gifts=8)
+            for day in range(play.model.now["days"][0], play.day + 2):
+                held = answers_on(play.line, [[10, owner, day] for owner in range(5)])
+                with self.subTest(seed=seed, day=day):
+                    self.assertEqual(sum(Fraction(*answer[1]) for answer in held), whole)
+
+    def test_no_land_is_twice_and_none_is_left_out(self):
+        for seed in range(250, 262):
+            play = Play(seed)
+            play.open()
+            play.some_acts(30)
+            for day in range(play.model.now["days"][0], play.day + 2):
+                with self.subTest(seed=seed, day=day):
+                    self.check_points(play, day)
+
+    def check_points(self, play, day):
+        points = [p for p in itertools.product(range(11), repeat=2) if min(play.layout.point(p)) >= 0]
+        answered = answers_on(play.line, [[7, *play.layout.point(p), day] for p in points])
+        for p, (number, found) in zip(points, answered):
+            cells = sum(cell in play.cells for cell in around(p))
+            if cells == 0:
+                self.assertEqual((number, found), (0, []), p)
+            elif cells == 4:
+                # Inside the district: inside just one, or on the edges of more.
+                self.assertEqual(number, 1 if len(found) == 1 else 0, p)
+                self.assertGreater(len(found), 0, p)
+            else:
+                self.assertEqual((number, len(found) > 0), (0, True), p)
 
     def test_parts_joined_again_are_the_same_ring(self):
         done = 0

@@ -5,6 +5,7 @@ import random
 import unittest
 from fractions import Fraction
 
+from landdays.neighbours import how_beside
 from landdays.rings import is_inside, may_be, twice_area
 from landdays.unions import join_rings
 from landdays.ways import goes_through, split_ring
@@ -150,6 +151,30 @@ class TestRings(unittest.TestCase):
                 for y in range(-1, 9):
                     expected = not lies_on(ring, (x, y)) and goes_round(ring, (x, y)) == 1
                     self.assertEqual(is_inside(ring, (x, y)), expected, (ring, x, y))
+
+
+def are_beside(ring, other):
+    """How two rings are beside one another, told by the ends of what their edges have in common."""
+    for p, q in edges(ring):
+        for r, s in edges(other):
+            if len(common(p, q, r, s)) == 2 and (q[0] - p[0]) * (s[0] - r[0]) + (q[1] - p[1]) * (s[1] - r[1]) < 0:
+                return 2
+    touches = any(lies_on(other, point) for point in ring) or any(lies_on(ring, point) for point in other)
+    return 1 if touches else 0
+
+
+class TestBeside(unittest.TestCase):
+    def test_rings_by_chance(self):
+        chance = random.Random(4)
+        found = []
+        rings = [some_ring(chance, chance.randint(3, 6), 5) for k in range(60)]
+        for ring, other in itertools.product(rings, repeat=2):
+            far = [(x + 4, y) for x, y in other]
+            for near in (other, far):
+                found.append(how_beside(ring, near))
+                self.assertEqual(found[-1], are_beside(ring, near), (ring, near))
+        for number in (0, 1, 2):
+            self.assertGreater(found.count(number), 100)
 
 
 class TestWays(unittest.TestCase):
