@@ -4,6 +4,7 @@ import unittest
 
 from tests.battery import answers_next, answers_on, changing_calls, day_questions, other_questions
 from tests.lines import RECTANGLE, Line, strips
+from tests.test_open import comb
 from tests.test_promises import Play
 
 PARCELS = range(12)
@@ -11,7 +12,6 @@ DAYS = (0, 9, 10, 11, 12, 13, 14, 15, 16, 17, 18, 19, 20, 21, 30, 1000000, 10000
 OWNERS = (0, 7, 8, 9, 1001)
 POINTS = ((0, 0), (10, 10), (20, 10), (20, 15), (30, 10), (30, 20), (35, 15), (40, 30), (41, 5))
 WAYS = ([10, 0, 10, 30], [20, 15, 40, 15], [30, 0, 30, 15], [30, 15, 30, 30], [20, 0, 20, 29])
-
 
 HISTORY = [[1, 7, 10, 8] + RECTANGLE, [2, 0, 12, 4, 20, 0, 20, 30], [4, 1, 13, 7, 8, 1, 2],
            [2, 2, 14, 4, 20, 15, 40, 15], [3, 3, 4, 16], [2, 5, 16, 4, 20, 15, 40, 15], [4, 6, 18, 7, 9, 1, 3],
@@ -87,12 +87,22 @@ class TestRefused(unittest.TestCase):
         self.assertEqual(all_answers(line), plain)
 
     def test_too_many_parcels(self):
-        questions = other_questions((0, 1, 197, 198, 199)) + day_questions((0, 198), (9, 10, 11), (7, 8), ((150, 15),))
-        changing = changing_calls((0, 197, 198), (10,), (7, 8), ([150, 0, 150, 30],))
-        line = strips()
-        plain = answers_on(line, questions) + answers_next(line, changing)
-        self.assertEqual(line.split(198, 10, [150, 0, 150, 30]).last(), (-2, []))
-        self.assertEqual(answers_on(line, questions) + answers_next(line, changing), plain)
+        def found(line):
+            questions = day_questions((0, 198, 199), (9, 10, 11), (7, 8), ((150, 15), (98, 5)))
+            questions += other_questions((0, 1, 197, 198, 199))
+            changing = changing_calls((0, 197, 198), (10,), (7, 8), ([150, 0, 150, 30],))
+            return answers_on(line, questions) + answers_next(line, changing)
+        full = strips().join(195, 197, 10)
+        for line, call in ((strips(), [2, 198, 10, 4, 150, 0, 150, 30]), (full, [3, 198, 199, 10])):
+            plain = found(line)
+            self.assertEqual(line.add(*call).last(), (-2, []))
+            self.assertEqual(found(line), plain)
+
+    def test_too_many_points(self):
+        line = Line().open(7, 10, comb(64)).give(0, 11, 7, 8, 1, 2)
+        plain = all_answers(line)
+        self.assertEqual(line.split(0, 18, [0, 2, 2, 0]).last(), (-2, []))
+        self.assertEqual(all_answers(line), plain)
 
     def test_nothing_to_take_back(self):
         line = Line().open(7, 10)
